@@ -73,6 +73,15 @@ class Misplaced(ReadCase):
         ):
             self.check_wrong(text, 2, 1, column)
 
+    def test_no_test_behind_a_test(self):
+        signs = ("==", "!=", "<", "<=", ">", ">=")
+        for first in signs:
+            for second in signs:
+                self.check_wrong(f"1 {first} 2 {second} 3;", 2, 1, 6 + len(first))
+                self.check_wrong(f"not 1 {first} 2 + 3 {second} 3;", 2, 1, 14 + len(first))
+                self.check_right(f"1 {first} (2 {second} 3);")
+                self.check_right(f"1 {first} 2 and 3 {second} 4 or 5 {first} 6;")
+
     def test_a_text_that_ends_in_the_middle_of_a_stat(self):
         whole = 'fn f(a, b) { for i in a to [b][0] { try { a.x = {k: i}; } catch e { if e { return; } else { throw -e; } } } }'
         for place in [place for place, byte in enumerate(whole) if byte == " "]:
@@ -205,6 +214,14 @@ class Depth(ReadCase):
             self.check_right(deep + stat + "}" * 39)
             text = deep + "if 1 {" + stat + "}" * 40
             self.check_wrong(text, 6, 1, 40 * 6 + stat.index("{") + 1)
+
+    def test_functions(self):
+        self.check_right("fn(){" * 40 + "};" * 40)
+        self.check_wrong("fn(){" * 41 + "};" * 41, 6, 1, 205)
+        self.check_right("fn f(){" * 40 + "}" * 40)
+        self.check_wrong("fn f(){" * 41 + "}" * 41, 6, 1, 287)
+        self.check_right("fn f(){" + "return fn(a){" * 39 + "};" * 39 + "}")
+        self.check_wrong("fn f(){" + "return fn(a){" * 40 + "};" * 40 + "}", 6, 1, 7 + 13 * 40)
 
     def test_each_kind_as_the_41st(self):
         deep = "(" * 40
