@@ -12,6 +12,7 @@ class Maker:
         self.number = number
         self.told = {}
         self.ahead = program.outermost_meanings(number)
+        self.use_names_ahead = program.use_names(number)
         self.given = {}
         self.drafts = []
         self.draft = None
@@ -43,6 +44,9 @@ class Maker:
 
     def is_outermost(self):
         return len(self.drafts) == 1 and len(self.draft.scope.blocks) == 1
+
+    def is_in_function(self):
+        return len(self.drafts) > 1
 
     def check_outermost(self, word):
         if not self.is_outermost():
@@ -77,7 +81,7 @@ class Maker:
         variable = self.find_variable(name.value)
         if variable is not None:
             return self.meaning_of_variable(variable)
-        known = self.told if len(self.drafts) == 1 else self.ahead
+        known = self.ahead if self.is_in_function() else self.told
         if name.value not in known:
             raise Wrong(3, name.line, name.column)
         return known[name.value]
@@ -94,6 +98,10 @@ class Maker:
     def target(self, name):
         """What the name stands for left of =; a use's name is never assigned."""
         meaning = self.meaning(name)
-        if meaning[0] == "module":
+        if meaning[0] == "module" or meaning[0] == "global" and self.is_use_ahead(name):
             raise Wrong(5, name.line, name.column)
         return meaning
+
+    def is_use_ahead(self, name):
+        # A name that let or fn tells as well is a use's name in functions before its second telling is met.
+        return self.is_in_function() and name.value in self.use_names_ahead

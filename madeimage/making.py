@@ -184,7 +184,7 @@ def make_continue(maker, word):
 
 
 def check_return(maker, word):
-    if len(maker.drafts) == 1:
+    if not maker.is_in_function():
         raise Wrong(5, word.line, word.column)
 
 

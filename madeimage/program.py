@@ -40,6 +40,14 @@ class Program:
                     waiting.append(used)
         return goal in seen
 
+    def use_names(self, number):
+        """The names that the module's uses tell, of modules that are there or not."""
+        names = {}
+        for telling in self.outlines[number].tellings:
+            if telling[1] is not None:
+                names[telling[0]] = True
+        return names
+
     def outermost_meanings(self, number):
         """What each name that the module's outermost tells stands for, told first or later."""
         meanings = {}

@@ -112,6 +112,32 @@ class Uses(ReadCase):
         self.check_wrong_in(["m", 'fn f() { a = 1; } use "z" as a;', "z", ""], 5, 0, 1, 10)
         self.check_wrong_in(["m", 'use "z" as a; fn f() { fn () { a = b; }; }', "z", ""], 5, 0, 1, 32)
 
+    def test_a_uses_name_that_is_told_twice_assigned_in_a_function(self):
+        self.check_wrong_in(["m", 'let a = 1; fn f() { a = 2; } use "z" as a;', "z", ""], 5, 0, 1, 21)
+        self.check_wrong_in(["m", 'fn f() { a = 2; } let a = 1; use "z" as a;', "z", ""], 5, 0, 1, 10)
+        self.check_wrong_in(["m", 'use "z" as a; fn f() { a = 2; } let a = 1;', "z", ""], 5, 0, 1, 24)
+        self.check_wrong_in(["m", 'fn f() { f = 1; } use "z" as f;', "z", ""], 5, 0, 1, 10)
+        self.check_wrong_in(["m", 'let a = fn () { a = 1; }; use "z" as a;', "z", ""], 5, 0, 1, 17)
+        self.check_wrong_in(["m", 'if 1 { fn f() { fn () { a = zz; }; } }\nlet a = 1; use "z" as a;', "z", ""], 5, 0, 1, 25)
+        self.check_wrong_in(["z", "", "m", 'let a = 1;\nfn f() {\n a = 2; } use "z" as a;'], 5, 1, 3, 2)
+
+    def test_before_what_is_wrong_with_the_use(self):
+        self.check_wrong_in(["m", 'fn d() { d = 1; } use "m" as d;'], 5, 0, 1, 10)
+        self.check_wrong_in(["m", 'fn d() { d = 1; } use "q" as d;'], 5, 0, 1, 10)
+        self.check_wrong_in(["m", 'let a = 1; let a = 2; fn f() { a = 1; } use "z" as a;', "z", ""], 4, 0, 1, 16)
+
+    def test_a_name_told_twice_that_is_not_assigned_in_a_function(self):
+        self.check_wrong_in(["m", 'let a = 1; fn f() { a; } use "z" as a;', "z", ""], 4, 0, 1, 37)
+        self.check_wrong_in(["m", 'let a = 1; fn f() { a.x = a[a]; } use "z" as a;', "z", ""], 4, 0, 1, 46)
+        self.check_wrong_in(["m", 'let a = 1; a = 2; use "z" as a;', "z", ""], 4, 0, 1, 30)
+        self.check_wrong_in(["m", 'let a = 1; if 1 { a = 2; } use "z" as a;', "z", ""], 4, 0, 1, 39)
+        self.check_wrong_in(["m", 'fn a() {} give a; use "z" as a;', "z", ""], 4, 0, 1, 30)
+        self.check_wrong_in(["m", 'let a = 1; fn f(a) { a = 2; } use "z" as a;', "z", ""], 4, 0, 1, 42)
+        self.check_wrong_in(["m", 'let a = 1; if 1 { let a = 1; fn () { a = 2; }; } use "z" as a;', "z", ""], 4, 0, 1, 61)
+
+    def test_a_use_in_a_block_tells_no_name_of_the_module(self):
+        self.check_wrong_in(["m", 'let a = 1; fn f() { a = 2; } if 1 { use "z" as a; }', "z", ""], 5, 0, 1, 37)
+
     def test_a_uses_name_given(self):
         self.check_wrong_in(["m", 'use "z" as a; give a;', "z", ""], 3, 0, 1, 20)
 
