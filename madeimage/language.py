@@ -1,6 +1,7 @@
-"""The language's calls: read."""
+"""The language's calls: read and tokens."""
 
 from madeimage.image import told_image
+from madeimage.listing import told_tokens
 from madeimage.making import make_module
 from madeimage.program import Program
 from madeimage.scanner import scan
@@ -65,3 +66,14 @@ def read(modules):
     if image is None:
         return [6, len(program.names) - 1, 1, 1]
     return [0] + image
+
+
+def tokens(text):
+    """Answer how many tokens there are and what is told of each; or -1, line and column of what can't be; or -8."""
+    if len(text) > LONGEST_TEXT:
+        return [-8]
+    found = scan(text)
+    last = found[-1]
+    if last.kind == "bad":
+        return [-1, last.line, last.column]
+    return told_tokens(found)

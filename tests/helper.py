@@ -1,11 +1,11 @@
-"""Calls of read with texts, and images written down by hand, for the tests.
+"""Calls of read and tokens with texts, and answers written down by hand, for the tests.
 
-Nothing here is drawn from the program but the function that is tested: the instructions' numbers are the document's.
+Nothing here is drawn from the program but the functions that are tested: the instructions' numbers are the document's.
 """
 
 import unittest
 
-from madeimage.language import read
+from madeimage.language import read, tokens
 
 NUMBERS = {
     "nothing": 0, "truth": 1, "number": 2, "string": 3, "get": 4, "put": 5, "cell": 6, "caught": 7, "catch": 8,
@@ -92,3 +92,40 @@ class ReadCase(unittest.TestCase):
 
     def check_right(self, text):
         self.assertEqual(read_one(text)[0], 0, text)
+
+
+NAME, WORD, NUMBER, STRING, SIGN = range(5)
+
+
+def tokens_of(text):
+    return tokens(as_bytes(text))
+
+
+def listed(*rows):
+    """What tokens answers of a text that is right: a row is a kind, line, column, and a number or a text."""
+    answer = [len(rows)]
+    for kind, line, column, value in rows:
+        answer += [kind, line, column]
+        answer += [1, value] if kind == NUMBER else told(value)
+    return answer
+
+
+class TokensCase(unittest.TestCase):
+    maxDiff = None
+
+    def check_listed(self, text, *rows):
+        self.assertEqual(tokens_of(text), listed(*rows), text)
+
+    def check_one(self, text, kind, value):
+        """Check a token alone, and that its place is told behind others and on a later line."""
+        self.check_listed(text, (kind, 1, 1, value))
+        self.check_listed("a, " + text, (NAME, 1, 1, "a"), (SIGN, 1, 2, ","), (kind, 1, 4, value))
+        self.check_listed(";# \"\n\r\t" + text + "\n;", (SIGN, 1, 1, ";"), (kind, 2, 3, value), (SIGN, 3, 1, ";"))
+
+    def check_bad(self, text):
+        """Check that the text's first token can't be: at the beginning, behind good tokens, on a later line."""
+        text = bytes(as_bytes(text))
+        for behind in (b"", b" ", b"\n;", b" a"):
+            self.assertEqual(tokens_of(text + behind), [-1, 1, 1], (text, behind))
+            self.assertEqual(tokens_of(b'let a = "\\x41" + ' + text + behind), [-1, 1, 18], (text, behind))
+            self.assertEqual(tokens_of(b'f(1); # "\n\n\t0x7f, ' + text + behind), [-1, 3, 8], (text, behind))

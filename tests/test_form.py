@@ -249,6 +249,7 @@ class Form(unittest.TestCase):
         defs = [node.name for node in ast.parse((PACKAGE / "language.py").read_text()).body
                 if isinstance(node, ast.FunctionDef)]
         self.assertIn("read", defs)
+        self.assertIn("tokens", defs)
         for path, tree in parsed():
             if path.stem != "language":
                 tops = [node.name for node in tree.body if isinstance(node, (ast.FunctionDef, ast.ClassDef))]
