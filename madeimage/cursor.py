@@ -1,6 +1,8 @@
-"""A cursor over a module's tokens, and the steps that reading leaves behind.
+"""A cursor over a module's tokens, the steps that reading leaves behind, and the parts that are to be read yet.
 
 A step is what, value, line: what was read, what is to be known of it, and the line of the stat it belongs to.
+A part is a function and a value: the function is called with the cursor and the value. What it can't read by itself
+it plans, once and as the last thing it does, so that what lies within another is read by a loop, not by a deeper call.
 """
 
 from madeimage.wrong import Wrong
@@ -18,6 +20,20 @@ class Cursor:
         self.depth = 0
         self.line = 1
         self.steps = []
+        self.planned = []
+        # What the exp that was read last is: "name", "part" (it may stand left of =), "call", or "other".
+        self.form = "other"
+
+    def plan(self, parts):
+        """Plan to read these parts, one after another, before what's planned already."""
+        for part in reversed(parts):
+            self.planned.append(part)
+
+    def read_planned(self):
+        while len(self.planned) > 0:
+            part = self.planned.pop()
+            read_part = part[0]
+            read_part(self, part[1])
 
     def stands(self, value):
         return self.here.value == value
@@ -25,6 +41,10 @@ class Cursor:
     def behind(self):
         """The token behind the one that's here."""
         return self.found[self.place + 1]
+
+    def before(self):
+        """The token before the one that's here."""
+        return self.found[self.place - 1]
 
     def take(self):
         token = self.here

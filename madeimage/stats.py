@@ -1,33 +1,44 @@
 """Reads stats, blocks and modules, and leaves an outline of each module: what the names' part goes over."""
 
-from madeimage.exps import ExpReader
+from madeimage.cursor import Cursor
+from madeimage.exps import read_block
+from madeimage.exps import read_exp
+from madeimage.exps import read_function
+from madeimage.parts import leave_makes
+from madeimage.parts import leave_step
+from madeimage.parts import take_expected
 from madeimage.wrong import Wrong
 
 
-class StatReader(ExpReader):
+class StatReader(Cursor):
     """Reads stats; each of its steps bears the line of the innermost stat."""
 
-    def read_stat(self):
-        self.line = self.here.line
-        read_rest = STATS.get(self.here.value, read_exp_stat)
-        if self.stands("fn") and self.behind().kind != "name":
-            read_rest = read_exp_stat
-        read_rest(self)
-
-    def read_block(self):
-        """Read a block; answer the line of its end."""
-        line = self.line
+    def begin_block(self):
+        """Begin a block, and plan its stats and its end; behind it the line is again what it is here."""
         self.go_in("{")
-        while not self.stands("}"):
-            self.read_stat()
-        self.line = line
-        return self.go_out("}").line
+        self.plan([(read_rest_of_block, self.line)])
 
-    def read_block_of_its_own(self):
-        """Read a block in which no name is told from outside."""
-        self.leave("block")
-        self.read_block()
-        self.leave("block end")
+
+def read_rest_of_block(reader, line):
+    if reader.stands("}"):
+        reader.line = line
+        reader.go_out("}")
+    else:
+        reader.plan([(read_stat, None), (read_rest_of_block, line)])
+
+
+def read_block_of_its_own(reader, value):
+    """Read a block in which no name is told from outside."""
+    reader.leave("block")
+    reader.plan([(read_block, None), (leave_step, ("block end", None))])
+
+
+def read_stat(reader, value):
+    reader.line = reader.here.line
+    read_rest = STATS.get(reader.here.value, read_exp_stat)
+    if reader.stands("fn") and reader.behind().kind != "name":
+        read_rest = read_exp_stat
+    read_rest(reader)
 
 
 def read_let(reader):
@@ -35,64 +46,65 @@ def read_let(reader):
     name = reader.expect_kind("name")
     reader.expect("=")
     reader.leave("new", name)
-    reader.read_exp()
-    reader.expect(";")
-    reader.leave("let", name)
+    reader.plan([(read_exp, None), (take_expected, ";"), (leave_step, ("let", name))])
 
 
 def read_fn(reader):
     begins = reader.take()
     name = reader.take()
     reader.leave("fn", name)
-    reader.read_function(begins, name.value)
-    reader.leave("assign", name)
+    reader.plan([(read_function, (begins, name.value)), (leave_step, ("assign", name))])
 
 
 def read_if(reader):
-    lands = 1
-    read_test_and_block(reader)
-    while reader.stands("else"):
-        reader.take()
-        reader.leave("else")
-        if not reader.stands("if"):
-            reader.read_block_of_its_own()
-            break
+    read_test_and_block(reader, 1)
+
+
+def read_test_and_block(reader, lands):
+    """Read from an if on; lands is how many ifs, this one and those that it is the else of, end with it."""
+    reader.take()
+    reader.plan([
+        (read_exp, None), (leave_step, ("unless", None)), (read_block_of_its_own, None), (read_else, lands),
+    ])
+
+
+def read_else(reader, lands):
+    if not reader.stands("else"):
+        leave_lands(reader, lands)
+        return
+    reader.take()
+    reader.leave("else")
+    if reader.stands("if"):
         # An if behind else is a stat of its own, so its line holds from here on.
         reader.line = reader.here.line
-        lands += 1
-        read_test_and_block(reader)
-    while lands > 0:
+        read_test_and_block(reader, lands + 1)
+    else:
+        reader.plan([(read_block_of_its_own, None), (leave_lands, lands)])
+
+
+def leave_lands(reader, lands):
+    for land in range(lands):
         reader.leave("land")
-        lands -= 1
-
-
-def read_test_and_block(reader):
-    reader.take()
-    reader.read_exp()
-    reader.leave("unless")
-    reader.read_block_of_its_own()
 
 
 def read_while(reader):
     reader.take()
     reader.leave("while")
-    reader.read_exp()
-    reader.leave("while test")
-    reader.read_block_of_its_own()
-    reader.leave("while end")
+    reader.plan([
+        (read_exp, None), (leave_step, ("while test", None)),
+        (read_block_of_its_own, None), (leave_step, ("while end", None)),
+    ])
 
 
 def read_for(reader):
     reader.take()
     name = reader.expect_kind("name")
     reader.expect("in")
-    reader.read_exp()
-    reader.leave("for first")
-    reader.expect("to")
-    reader.read_exp()
-    reader.leave("for last", name)
-    reader.read_block()
-    reader.leave("for end")
+    reader.plan([
+        (read_exp, None), (leave_step, ("for first", None)), (take_expected, "to"),
+        (read_exp, None), (leave_step, ("for last", name)),
+        (read_block, None), (leave_step, ("for end", None)),
+    ])
 
 
 def read_leap(reader):
@@ -103,19 +115,19 @@ def read_leap(reader):
 
 def read_return(reader):
     reader.leave("return", reader.take())
+    reader.plan([(read_returned, None), (take_expected, ";"), (leave_step, ("return end", None))])
+
+
+def read_returned(reader, value):
     if reader.stands(";"):
         reader.leave_make("nothing")
     else:
-        reader.read_exp()
-    reader.expect(";")
-    reader.leave("return end")
+        read_exp(reader, None)
 
 
 def read_throw(reader):
     reader.take()
-    reader.read_exp()
-    reader.leave_make("throw")
-    reader.expect(";")
+    reader.plan([(read_exp, None), (leave_makes, ("throw",)), (take_expected, ";")])
 
 
 def read_yield(reader):
@@ -127,12 +139,13 @@ def read_yield(reader):
 def read_try(reader):
     reader.take()
     reader.leave("try")
-    reader.read_block_of_its_own()
+    reader.plan([(read_block_of_its_own, None), (read_catch, None)])
+
+
+def read_catch(reader, value):
     reader.expect("catch")
     reader.leave("catch", reader.expect_kind("name"))
-    reader.read_block()
-    reader.leave("block end")
-    reader.leave("land")
+    reader.plan([(read_block, None), (leave_step, ("block end", None)), (leave_step, ("land", None))])
 
 
 def read_use(reader):
@@ -150,27 +163,27 @@ def read_give(reader):
 
 
 def read_exp_stat(reader):
-    form = reader.read_exp()
+    reader.plan([(read_exp, None), (read_rest_of_exp_stat, None), (take_expected, ";")])
+
+
+def read_rest_of_exp_stat(reader, value):
     if reader.stands("="):
-        read_assignment(reader, form)
+        read_assignment(reader)
     else:
         reader.leave_make("drop")
-    reader.expect(";")
 
 
-def read_assignment(reader, form):
-    if form not in ("name", "part"):
+def read_assignment(reader):
+    if reader.form not in ("name", "part"):
         raise Wrong(5, reader.here.line, reader.here.column)
     reader.take()
     # What was read as a value is the target: its last step doesn't get it, but waits to be put into.
     left = reader.steps.pop()
-    if form == "part":
-        reader.read_exp()
-        reader.leave_make("into")
+    if reader.form == "part":
+        reader.plan([(read_exp, None), (leave_makes, ("into",))])
         return
     reader.leave("target", left[1])
-    reader.read_exp()
-    reader.leave("assign", left[1])
+    reader.plan([(read_exp, None), (leave_step, ("assign", left[1]))])
 
 
 STATS = {
@@ -208,6 +221,7 @@ def read_outline(found):
     tellings = []
     while reader.here.kind != "end":
         place = reader.place
-        reader.read_stat()
+        reader.plan([(read_stat, None)])
+        reader.read_planned()
         add_telling(tellings, found, place)
     return Outline(reader.steps, tellings, reader.here.line)
